@@ -1,0 +1,1 @@
+"""Allsomeno: what all, some and no sentences say together."""

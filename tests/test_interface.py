@@ -1,0 +1,78 @@
+"""The interface: every name in its own file, with its arguments; and calls that leave no trace (point 2)."""
+
+import importlib
+import inspect
+import unittest
+
+INTERFACE = {
+    "sentences": {
+        "is_signature": "value", "is_sentence": "signature value", "are_premises": "signature value",
+        "negation": "signature sentence", "other_voice": "signature sentence", "told_form": "signature sentence",
+        "say_the_same": "signature first second",
+    },
+    "listed": {
+        "count_sentences": "signature", "nth_sentence": "signature index",
+        "index_of_sentence": "signature sentence", "renamed": "signature sentence order",
+    },
+    "models": {
+        "is_model": "signature value", "holds": "signature model sentence",
+        "first_false": "signature model premises", "count_with": "signature model noun",
+        "total_size": "signature model",
+    },
+    "witnesses": {
+        "first_witness": "signature model sentence", "is_witness": "signature model sentence value",
+        "expanded": "signature model", "restricted": "signature model groups", "tidied": "signature model",
+    },
+    "tables": {
+        "subsets": "signature premises", "at_least": "signature premises", "nouns_required": "signature premises",
+    },
+    "kinds": {
+        "is_kind": "signature value", "nouns_above": "signature premises kind",
+        "kinds_required": "signature premises", "forced_between": "signature premises verb first second",
+        "forced_to_itself": "signature premises verb kind",
+    },
+}
+ERRORS = {
+    "LogicError": None, "BadValue": "name", "TooLarge": "what", "NotPossible": "why", "TextError": "column words",
+}
+RIGHT = {
+    "signature": (2, 1), "sentence": ("no", 1, 0), "first": ("some", 0, 1), "second": ("all", 0, 1), "index": 95,
+    "order": (1, 0), "model": (((2, (0, 1)), (1, ())), (((0, 1), (1,)),), ((0,),)), "noun": 1, "groups": (1,),
+    "premises": (("all", 0, 1), ("verb", "some", 0, True, 0, False, "all", 1)), "verb": 0, "value": ("one", 0),
+    "kind": ("one", 1),
+}
+
+
+class Interface(unittest.TestCase):
+    def test_every_function_in_its_own_file(self):
+        for module, functions in INTERFACE.items():
+            found = importlib.import_module("allsomeno." + module)
+            for name, parameters in functions.items():
+                function = getattr(found, name)
+                self.assertEqual(function.__module__, "allsomeno." + module)
+                self.assertEqual(list(inspect.signature(function).parameters), parameters.split())
+
+    def test_every_error_in_its_own_file(self):
+        errors = importlib.import_module("allsomeno.errors")
+        for name, parameters in ERRORS.items():
+            error = getattr(errors, name)
+            self.assertEqual(error.__module__, "allsomeno.errors")
+            if parameters is not None:
+                self.assertEqual(list(inspect.signature(error).parameters), parameters.split())
+
+    def test_the_same_call_returns_equal_results(self):
+        for module, functions in INTERFACE.items():
+            found = importlib.import_module("allsomeno." + module)
+            for name, parameters in functions.items():
+                values = dict(RIGHT)
+                if name == "forced_between":
+                    values.update(first=("one", 0), second=("both", 0, 1))
+                arguments = [values[parameter] for parameter in parameters.split()]
+                before = repr(arguments)
+                results = [getattr(found, name)(*arguments) for _ in range(2)]
+                self.assertEqual(repr(results[0]), repr(results[1]))
+                self.assertEqual(repr(arguments), before)
+
+
+if __name__ == "__main__":
+    unittest.main()
