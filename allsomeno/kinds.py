@@ -1,12 +1,14 @@
 """Kinds of individuals: which ones premises require, and what they are forced to do to one another."""
 
 from allsomeno.errors import BadValue
+from allsomeno.forcing import Forcing
 from allsomeno.sentences import check_premises, check_signature, is_noun, is_verb
 from allsomeno.stated import kinds_stated
 from allsomeno.tables import nouns_needed, nouns_over, tables_of
 
 
-def _is_kind(signature, value):
+def has_form_of_kind(signature, value):
+    """Whether the value is a kind of the signature, which is not checked."""
     if not isinstance(value, tuple) or len(value) < 2 or not is_noun(signature, value[1]):
         return False
     word, rest = value[0], value[2:]
@@ -28,7 +30,7 @@ def _is_mark_rest(signature, rest):
 
 
 def _check_kind(signature, kind, name):
-    if not _is_kind(signature, kind):
+    if not has_form_of_kind(signature, kind):
         raise BadValue(name)
 
 
@@ -44,32 +46,6 @@ def kinds_needed(inside, enough, premises):
     return tuple(singles + others)
 
 
-def is_forced(inside, premises, does, verb, first, second):
-    """Whether it is forced that the first kind does the verb to the second one (or, without `does`, does not)."""
-    doers, targets = nouns_over(inside, first), nouns_over(inside, second)
-    if first[0] == "mark" and first[2:5] == (does, verb, False) and first[5] in targets:
-        return True
-    if second[0] == "mark" and second[2:5] == (does, verb, True) and second[5] in doers:
-        return True
-    for premise in premises:
-        if premise[:2] == ("verb", "all") and premise[6] == "all" and premise[3:5] == (does, verb):
-            _, _, x, _, _, by, _, y = premise
-            doer, target = (y, x) if by else (x, y)
-            if doer in doers and target in targets:
-                return True
-    return False
-
-
-def is_forced_to_itself(inside, premises, does, verb, kind):
-    """Whether it is forced that each of the kind does the verb to itself (or, without `does`, does not)."""
-    if kind[0] == "self" and kind[2:] == (does, verb):
-        return True
-    for x in nouns_over(inside, kind):
-        if ("self", "all", x, does, verb) in premises:
-            return True
-    return is_forced(inside, premises, does, verb, kind, kind)
-
-
 def _word(yes, no):
     if yes:
         return "both" if no else "yes"
@@ -79,7 +55,7 @@ def _word(yes, no):
 def is_kind(signature, value):
     """Whether the value is a kind of the signature."""
     check_signature(signature)
-    return _is_kind(signature, value)
+    return has_form_of_kind(signature, value)
 
 
 def nouns_above(signature, premises, kind):
@@ -107,8 +83,9 @@ def forced_between(signature, premises, verb, first, second):
     _check_kind(signature, first, "first")
     _check_kind(signature, second, "second")
     inside, _ = tables_of(signature[0], premises)
-    yes = is_forced(inside, premises, True, verb, first, second)
-    return _word(yes, is_forced(inside, premises, False, verb, first, second))
+    forcing = Forcing(inside, premises)
+    yes = forcing.is_between(True, verb, first, second)
+    return _word(yes, forcing.is_between(False, verb, first, second))
 
 
 def forced_to_itself(signature, premises, verb, kind):
@@ -118,5 +95,5 @@ def forced_to_itself(signature, premises, verb, kind):
     _check_verb(signature, verb)
     _check_kind(signature, kind, "kind")
     inside, _ = tables_of(signature[0], premises)
-    yes = is_forced_to_itself(inside, premises, True, verb, kind)
-    return _word(yes, is_forced_to_itself(inside, premises, False, verb, kind))
+    forcing = Forcing(inside, premises)
+    return _word(forcing.is_alone(True, verb, kind), forcing.is_alone(False, verb, kind))

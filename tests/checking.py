@@ -10,6 +10,14 @@ WRONG_SIGNATURES = (
     None, True, 2, "21", (), (2,), (2, 1, 0), [2, 1], (0, 1), (5, 1), (2, -1), (2, 3), (True, 1), (2, True),
     (2, False), ("2", 1), (2, None), ((2,), 1), (2, [1]),
 )
+# Values of every kind, for judges: none of them is a right one in all places, most are in none.
+VALUES = (
+    None, True, False, 0, 1, -1, 10 ** 30, "", "all", "open", "no model", (), [], (None,), [None], ((),), [()], ([],),
+    ((), ()), ((), (), ()), [(), (), ()], ([], (), ()), ((), [], ()), ((), (), []), ((), (), (), ()), (0,), (True, 1),
+    ("open",), ("no model",), ("no model", ()), ("no model", None), ("entailed", (), ()), ("refuted", (), ()),
+    ("open", (), ()), ["open", (), ()], (["open"], (), ()), (("open",), (), ()), (None, (), ()), (0, 0, 0),
+    ("clash",), (("clash",),), ("all", 0, 0), (("all", 0, 0),), (((1, ()),), (), ()), (((0, ()),), (), ()),
+)
 SIGNATURES = tuple((nouns, verbs) for nouns in range(1, 5) for verbs in range(3))
 
 

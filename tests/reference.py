@@ -75,6 +75,11 @@ def part_of(many, rank):
     return tuple(at for at in range(many) if rank >> at & 1)
 
 
+def is_model_of(model, premises):
+    """Whether all of the premises hold in the model."""
+    return all(truth(model, premise) for premise in premises)
+
+
 def small_models(signature, most):
     """All models with at most so many individuals, each in a group of its own."""
     nouns, verbs = signature

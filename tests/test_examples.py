@@ -61,6 +61,71 @@ TABLES_AND_KINDS = """
 (False, True)
 """
 
+CONFLICTS_AND_CANONICAL = """
+>>> from allsomeno.canonical import accepts_model, canonical_model
+>>> from allsomeno.conflicts import can_hold, conflicts
+>>> premises = (("all", 0, 1), ("fewer", 0, 2), ("some", 0, 0))
+>>> conflicts((3, 0), premises), can_hold((3, 0), premises), [size for size, nouns in canonical_model((3, 0), premises)[0]]
+((), True, [1, 1, 1, 1, 1, 1, 4, 1, 1])
+>>> conflicts((3, 0), premises + (("as many", 0, 2),)), conflicts((1, 0), (("some not", 0, 0),))
+((('premise', 1),), (('premise', 0),))
+>>> both = (("verb", "all", 0, True, 0, False, "all", 1), ("verb", "all", 0, False, 0, False, "all", 1), ("some", 0, 1))
+>>> conflicts((2, 1), both)[:2], len(conflicts((2, 1), both)), conflicts((2, 1), both)[-1]
+((('pair', 0, ('one', 0), ('one', 1)), ('pair', 0, ('one', 0), ('both', 0, 1))), 5, ('self', 0, ('both', 0, 1)))
+>>> canonical_model((1, 1), (("some", 0, 0), ("self", "all", 0, False, 0), ("verb", "all", 0, True, 0, False, "some", 0)))
+(((1, (0,)), (1, (0,)), (1, (0,))), (((1,), (2,), (0,)),), ((),))
+>>> accepts_model((1, 0), (("some", 0, 0),), (((1, (0,)),), (), ())), accepts_model((1, 0), (("some", 0, 0),), ((), (), ()))
+(True, False)
+"""
+
+PROOFS_AND_PROVING = """
+>>> from allsomeno.proofs import first_wrong, follows, is_fact
+>>> from allsomeno.proving import told_proof
+>>> premises = (("all", 0, 1), ("all", 1, 2), ("as many", 0, 2), ("some not", 2, 0))
+>>> told_proof((3, 0), premises)
+(('all', 0, 1), ('all', 1, 2), ('as many', 0, 2), ('all', 0, 2), ('all', 2, 0), ('clash',))
+>>> first_wrong((3, 0), premises, told_proof((3, 0), premises)), first_wrong((3, 0), premises, (("all", 0, 1), ("all", 0, 2), ("clash",)))
+(None, 1)
+>>> told_proof((3, 0), premises[:3]) is None, first_wrong((3, 0), premises, ()), follows((3, 0), premises, (("all", 0, 2),), ("as many", 2, 0))
+(True, 0, True)
+>>> seeing = (("verb", "some", 0, True, 0, False, "all", 1), ("self", "all", 0, False, 0), ("all", 0, 1))
+>>> told_proof((2, 1), seeing), is_fact((2, 1), ("both", 1, 0)), is_fact((2, 1), ("clash",))
+((('all', 0, 1), ('mark', 0, True, 0, False, 1), ('clash',)), False, True)
+"""
+
+VERDICTS = """
+>>> from allsomeno.verdicts import accepts_verdict, consequences, is_consequence, verdict, verdict_evidence
+>>> chain = (("all", 0, 1), ("all", 1, 2))
+>>> verdict((3, 0), chain, ("all", 0, 2)), verdict((3, 0), chain, ("as many", 2, 0)), verdict((3, 0), chain[:1], ("some", 0, 1))
+('entailed', 'entailed', 'open')
+>>> verdict((2, 0), (("no", 0, 0),), ("some", 0, 1)), verdict((2, 0), (("no", 0, 0), ("some", 0, 1)), ("all", 0, 0))
+('refuted', 'no model')
+>>> [verdict_evidence((3, 0), chain, claim)[0] for claim in (("all", 0, 2), ("some not", 0, 2), ("some", 0, 1))]
+['entailed', 'refuted', 'open']
+>>> accepts_verdict((3, 0), chain, ("all", 0, 2), verdict_evidence((3, 0), chain, ("all", 0, 2))), accepts_verdict((2, 0), (("all", 0, 1),), ("some", 0, 1), ("open", (((1, (0, 1)),), (), ()), ((), (), ())))
+(True, True)
+>>> is_consequence((1, 0), (), ("all", 0, 0)), is_consequence((2, 0), (("all", 0, 1),), ("some", 0, 1)), consequences((1, 0), (), 0, 2)
+(True, False, [('all', 0, 0), ('as many', 0, 0)])
+"""
+
+REASONS_AND_GROUNDS = """
+>>> from allsomeno.grounds import accepts_reasons, reasons_evidence
+>>> from allsomeno.reasons import is_enough, necessary, reasons, removal, unused
+>>> four = (("all", 0, 1), ("all", 1, 2), ("no", 2, 0), ("some", 0, 1))
+>>> reasons((3, 0), four, None), necessary((3, 0), four, None), unused((3, 0), four, None), removal((3, 0), four, None)
+([(1, 2, 3)], (1, 2, 3), (0,), (1,))
+>>> reasons((3, 0), four, ("all", 0, 2)), necessary((3, 0), four, ("all", 0, 2)), unused((3, 0), four, ("all", 0, 2)), removal((3, 0), four, ("all", 0, 2))
+([(0, 1), (1, 2, 3)], (1,), (), (1,))
+>>> two = (("some", 0, 1), ("some", 0, 2))
+>>> reasons((3, 0), two, ("some", 0, 0)), removal((3, 0), two, ("some", 0, 0)), reasons((3, 0), two, ("all", 0, 0)), removal((3, 0), two, ("all", 0, 0))
+([(0,), (1,)], (0, 1), [()], None)
+>>> is_enough((3, 0), two, ("some", 1, 2)), reasons((3, 0), two, ("some", 1, 2)), removal((3, 0), two, ("some", 1, 2))
+(False, [], ())
+>>> told = reasons_evidence((3, 0), four, ("all", 0, 2))
+>>> told[0], len(told[1]), accepts_reasons((3, 0), four, ("all", 0, 2), told), accepts_reasons((3, 0), four, ("all", 0, 2), (told[0][:1], told[1][:1], told[2]))
+(((0, 1), (1, 2, 3)), 2, True, False)
+"""
+
 
 class Examples(unittest.TestCase):
     def check(self, text, many):
@@ -79,8 +144,20 @@ class Examples(unittest.TestCase):
     def test_tables_and_kinds(self):
         self.check(TABLES_AND_KINDS, 11)
 
+    def test_conflicts_and_canonical(self):
+        self.check(CONFLICTS_AND_CANONICAL, 9)
+
+    def test_proofs_and_proving(self):
+        self.check(PROOFS_AND_PROVING, 8)
+
+    def test_verdicts(self):
+        self.check(VERDICTS, 7)
+
+    def test_reasons_and_grounds(self):
+        self.check(REASONS_AND_GROUNDS, 10)
+
     def test_readme(self):
-        self.check(README.read_text(), 12)
+        self.check(README.read_text(), 22)
 
 
 if __name__ == "__main__":

@@ -31,6 +31,26 @@ INTERFACE = {
         "kinds_required": "signature premises", "forced_between": "signature premises verb first second",
         "forced_to_itself": "signature premises verb kind",
     },
+    "conflicts": {"conflicts": "signature premises", "can_hold": "signature premises"},
+    "canonical": {"canonical_model": "signature premises", "accepts_model": "signature premises value"},
+    "proofs": {
+        "is_fact": "signature value", "follows": "signature premises lines fact",
+        "first_wrong": "signature premises lines",
+    },
+    "proving": {"told_proof": "signature premises"},
+    "verdicts": {
+        "verdict": "signature premises claim", "verdict_evidence": "signature premises claim",
+        "accepts_verdict": "signature premises claim value", "is_consequence": "signature premises claim",
+        "consequences": "signature premises index many",
+    },
+    "reasons": {
+        "reasons": "signature premises claim", "is_enough": "signature premises claim",
+        "necessary": "signature premises claim", "unused": "signature premises claim",
+        "removal": "signature premises claim",
+    },
+    "grounds": {
+        "reasons_evidence": "signature premises claim", "accepts_reasons": "signature premises claim value",
+    },
 }
 ERRORS = {
     "LogicError": None, "BadValue": "name", "TooLarge": "what", "NotPossible": "why", "TextError": "column words",
@@ -39,7 +59,7 @@ RIGHT = {
     "signature": (2, 1), "sentence": ("no", 1, 0), "first": ("some", 0, 1), "second": ("all", 0, 1), "index": 95,
     "order": (1, 0), "model": (((2, (0, 1)), (1, ())), (((0, 1), (1,)),), ((0,),)), "noun": 1, "groups": (1,),
     "premises": (("all", 0, 1), ("verb", "some", 0, True, 0, False, "all", 1)), "verb": 0, "value": ("one", 0),
-    "kind": ("one", 1),
+    "kind": ("one", 1), "lines": (("all", 0, 1), ("one", 0)), "fact": ("clash",), "claim": ("some", 1, 1), "many": 20,
 }
 
 
