@@ -16,6 +16,7 @@ def _is_greatest(many, part, found):
     """Whether the part, of so many premises, is not enough, while each part with more than it has is."""
     if has_all_of_one(part, found):
         return False
+    # What one index more makes enough, further ones leave enough.
     more = [tuple(sorted(part + (index,))) for index in range(many) if index not in part]
     return all(has_all_of_one(one, found) for one in more)
 

@@ -19,23 +19,23 @@ class Board:
         self.nouns, self.verbs = signature
         self.premises = premises
         self.stated = kinds_stated(premises)
-        self.lines = {}
+        self.said = {}
         self.kinds = []
 
     def has(self, fact):
         """Whether the fact is a line."""
-        return fact in self.lines
+        return fact in self.said
 
     def put(self, fact):
-        """Make the fact a line, behind the others."""
-        self.lines[fact] = True
-        if fact[0] not in PAIR_WORDS and fact != CLASH:
+        """Make the fact a line; a line that is there already says nothing more."""
+        if fact[0] not in PAIR_WORDS and fact != CLASH and fact not in self.said:
             self.kinds.append(fact)
+        self.said[fact] = True
 
     def table(self, word):
         """A row for each noun that tells, for each noun, whether the word and both are a line."""
         nouns = range(self.nouns)
-        return [[(word, x, y) in self.lines for y in nouns] for x in nouns]
+        return [[(word, x, y) in self.said for y in nouns] for x in nouns]
 
 
 def _has_form_of_fact(signature, value):

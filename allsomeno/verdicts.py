@@ -77,13 +77,14 @@ def consequences(signature, premises, index, many):
     """The list of the first so many consequences, in order, from the sentence with the index on."""
     check_signature(signature)
     check_premises(signature, premises, "premises")
-    if not is_integer(index, 0, count_sentences(signature) - 1):
+    last = count_sentences(signature) - 1
+    if not is_integer(index, 0, last):
         raise BadValue("index")
     if not is_integer(many, 0, MOST_TOLD):
         raise BadValue("many")
     found = []
     at = index
-    while at < count_sentences(signature) and len(found) < many:
+    while at <= last and len(found) < many:
         sentence = nth_sentence(signature, at)
         if is_entailed(signature, premises, sentence):
             found.append(sentence)
