@@ -48,6 +48,15 @@ def _index_with_word(signature, sentence):
     return index
 
 
+def sentences_in_order(signature):
+    """The list of all sentences of the signature, in their order."""
+    found = []
+    for word in WORDS:
+        many = _count_with_word(signature, word)
+        found.extend([_sentence_with_word(signature, word, index) for index in range(many)])
+    return found
+
+
 def is_order(signature, value):
     """Whether the value is a tuple that has each noun once."""
     if not isinstance(value, tuple) or len(value) != signature[0]:

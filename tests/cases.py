@@ -1,11 +1,11 @@
-"""Premises and claims of many kinds, the same in every run, for the tests of chapters 4 to 7."""
+"""Premises and claims of many kinds, the same in every run, for the tests of chapters 4 to 8."""
 
 from allsomeno.conflicts import can_hold
 from allsomeno.verdicts import is_consequence
 
 from tests.checking import sentences_of
 from tests.reference import Stream, mixed_premises
-from tests.second import negation_of, parts_of
+from tests.second import conflicts_of, negation_of, parts_of
 
 TRUTHS = (True, False)
 NOBODY = ((), (), ())
@@ -73,3 +73,20 @@ def renamed_sentence(sentence, nouns, verbs):
         _, q, x, does, v = sentence
         return ("self", q, nouns[x], does, verbs[v])
     return (sentence[0], nouns[sentence[1]], nouns[sentence[2]])
+
+
+def compared(seed, signatures, each, most=7):
+    """Many signatures and pairs of premises; in half of them the first ones entail most of the second ones."""
+    stream = Stream(seed)
+    for signature in signatures:
+        sentences = sentences_of(signature)
+        short = [one for one in sentences if len(one) == 3]
+        for at in range(each):
+            first = mixed_premises(sentences, stream, most)
+            second = []
+            for _ in range(stream.below(most + 1)):
+                chosen = (sentences, short, first or short)[stream.below(3)]
+                one = chosen[stream.below(len(chosen))]
+                if at % 2 or stream.below(20) == 0 or conflicts_of(signature, first + (negation_of(one),)):
+                    second.append(one)
+            yield signature, first, tuple(second)

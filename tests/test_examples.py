@@ -126,6 +126,30 @@ REASONS_AND_GROUNDS = """
 (((0, 1), (1, 2, 3)), 2, True, False)
 """
 
+COMPARING = """
+>>> from allsomeno.comparing import accepts_difference, accepts_proofs, are_equivalent, difference, entails, needless, proofs, pruned
+>>> chain, ends = (("all", 0, 1), ("all", 1, 2)), (("all", 0, 2), ("as many", 2, 0))
+>>> entails((3, 0), chain, ends), entails((3, 0), ends, chain), difference((3, 0), chain, ends) is None, difference((3, 0), ends, chain)[0]
+(True, False, True, 0)
+>>> accepts_difference((3, 0), ends, chain, (0, (((1, (0, 2)),), (), ()))), accepts_difference((3, 0), ends, chain, (1, (((1, (0, 2)),), (), ())))
+(True, False)
+>>> accepts_proofs((3, 0), chain, ends, proofs((3, 0), chain, ends)), proofs((3, 0), ends, chain) is None, proofs((3, 0), chain, ())
+(True, True, ())
+>>> needless((3, 0), chain + ends), pruned((3, 0), chain + ends), are_equivalent((3, 0), chain, chain + ends), needless((2, 0), (("all", 0, 1), ("all", 0, 1)))
+((2, 3), (('all', 0, 1), ('all', 1, 2)), True, (0, 1))
+"""
+
+TELLING = """
+>>> from allsomeno.telling import agree, agree_but_for_sizes, tells_apart, theory, told_sentence, union
+>>> one, two, other = (((1, (0,)),), (), ()), (((2, (0,)),), (), ()), (((1, (0,)), (2, (1,))), (), ())
+>>> agree((2, 0), one, two), agree((2, 0), one, other), tells_apart((2, 0), one, other, ("some", 1, 1)), tells_apart((2, 0), one, other, ("some", 0, 0))
+(True, False, True, False)
+>>> union((2, 0), one, other), agree_but_for_sizes((2, 0), other, union((2, 0), other, two)), agree((2, 0), other, union((2, 0), other, two))
+((((1, (0,)), (1, (0,)), (2, (1,))), (), ()), True, False)
+>>> len(theory((1, 0), one)), told_sentence((1, 0), one, two) is None, told_sentence((1, 0), one, ((), (), ())) is None
+(3, True, False)
+"""
+
 
 class Examples(unittest.TestCase):
     def check(self, text, many):
@@ -156,8 +180,14 @@ class Examples(unittest.TestCase):
     def test_reasons_and_grounds(self):
         self.check(REASONS_AND_GROUNDS, 10)
 
+    def test_comparing(self):
+        self.check(COMPARING, 6)
+
+    def test_telling(self):
+        self.check(TELLING, 5)
+
     def test_readme(self):
-        self.check(README.read_text(), 22)
+        self.check(README.read_text(), 29)
 
 
 if __name__ == "__main__":

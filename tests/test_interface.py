@@ -51,15 +51,40 @@ INTERFACE = {
     "grounds": {
         "reasons_evidence": "signature premises claim", "accepts_reasons": "signature premises claim value",
     },
+    "comparing": {
+        "entails": "signature first second", "are_equivalent": "signature first second",
+        "difference": "signature first second", "accepts_difference": "signature first second value",
+        "proofs": "signature first second", "accepts_proofs": "signature first second value",
+        "needless": "signature premises", "pruned": "signature premises",
+    },
+    "telling": {
+        "told_sentence": "signature first second", "agree": "signature first second",
+        "agree_but_for_sizes": "signature first second", "tells_apart": "signature first second value",
+        "theory": "signature model", "union": "signature first second",
+    },
+    "naming": {"are_names": "value"},
+    "scanning": {"scan": "text"},
 }
 ERRORS = {
     "LogicError": None, "BadValue": "name", "TooLarge": "what", "NotPossible": "why", "TextError": "column words",
 }
+RIGHT_PREMISES = (("all", 0, 1), ("verb", "some", 0, True, 0, False, "all", 1))
+RIGHT_MODEL = (((2, (0, 1)), (1, ())), (((0, 1), (1,)),), ((0,),))
 RIGHT = {
     "signature": (2, 1), "sentence": ("no", 1, 0), "first": ("some", 0, 1), "second": ("all", 0, 1), "index": 95,
-    "order": (1, 0), "model": (((2, (0, 1)), (1, ())), (((0, 1), (1,)),), ((0,),)), "noun": 1, "groups": (1,),
-    "premises": (("all", 0, 1), ("verb", "some", 0, True, 0, False, "all", 1)), "verb": 0, "value": ("one", 0),
+    "order": (1, 0), "model": RIGHT_MODEL, "noun": 1, "groups": (1,), "premises": RIGHT_PREMISES, "verb": 0,
+    "value": ("one", 0),
     "kind": ("one", 1), "lines": (("all", 0, 1), ("one", 0)), "fact": ("clash",), "claim": ("some", 1, 1), "many": 20,
+    "text": "all clerk; some",
+}
+# How many functions return lists.
+LISTS = 4
+# In some modules parameters of the same names stand for values of another kind.
+RIGHT_IN = {
+    "verdicts": {"index": 0},
+    "kinds": {"first": ("one", 0), "second": ("both", 0, 1)},
+    "comparing": {"first": RIGHT_PREMISES, "second": (("some", 1, 1), ("no", 0, 0))},
+    "telling": {"first": RIGHT_MODEL, "second": ((), ((),), ((),)), "value": ("some", 0, 1)},
 }
 
 
@@ -80,18 +105,32 @@ class Interface(unittest.TestCase):
             if parameters is not None:
                 self.assertEqual(list(inspect.signature(error).parameters), parameters.split())
 
-    def test_the_same_call_returns_equal_results(self):
+    def calls(self):
+        """Each function with right arguments."""
         for module, functions in INTERFACE.items():
             found = importlib.import_module("allsomeno." + module)
+            values = {**RIGHT, **RIGHT_IN.get(module, {})}
             for name, parameters in functions.items():
-                values = dict(RIGHT)
-                if name == "forced_between":
-                    values.update(first=("one", 0), second=("both", 0, 1))
-                arguments = [values[parameter] for parameter in parameters.split()]
-                before = repr(arguments)
-                results = [getattr(found, name)(*arguments) for _ in range(2)]
-                self.assertEqual(repr(results[0]), repr(results[1]))
-                self.assertEqual(repr(arguments), before)
+                yield getattr(found, name), [values[parameter] for parameter in parameters.split()]
+
+    def test_the_same_call_returns_equal_results(self):
+        for function, arguments in self.calls():
+            before = repr(arguments)
+            results = [function(*arguments) for _ in range(2)]
+            self.assertEqual(repr(results[0]), repr(results[1]), function)
+            self.assertEqual(repr(arguments), before, function)
+
+    def test_a_returned_list_is_not_used_again(self):
+        met = 0
+        for function, arguments in self.calls():
+            found = function(*arguments)
+            if isinstance(found, list):
+                met += 1
+                told = repr(found)
+                self.assertGreater(len(found), 0, function)
+                found.clear()
+                self.assertEqual(repr(function(*arguments)), told, function)
+        self.assertEqual(met, LISTS)
 
 
 if __name__ == "__main__":
