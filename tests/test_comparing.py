@@ -113,8 +113,9 @@ class Entailed(unittest.TestCase):
 
     def test_with_verbs(self):
         sees = (verb("some", 0, True, 0, False, "all", 1), ("all", 2, 1))
-        self.check((3, 1), sees, (verb("all", 2, True, 0, True, "some", 0), verb("some", 0, True, 0, False, "all", 2)), None)
-        self.check((3, 1), sees, (verb("all", 2, True, 0, True, "some", 0), verb("all", 0, True, 0, False, "some", 2)), 1)
+        seen = verb("all", 2, True, 0, True, "some", 0)
+        self.check((3, 1), sees, (seen, verb("some", 0, True, 0, False, "all", 2)), None)
+        self.check((3, 1), sees, (seen, verb("all", 0, True, 0, False, "some", 2)), 1)
 
     def test_many(self):
         met = {True: 0, False: 0}

@@ -4,6 +4,9 @@ import doctest
 import unittest
 from pathlib import Path
 
+from allsomeno.errors import TextError
+from allsomeno.reading import read_sentence
+
 README = Path(__file__).resolve().parent.parent / "README.md"
 
 SENTENCES_AND_LISTED = """
@@ -150,6 +153,34 @@ TELLING = """
 (3, True, False)
 """
 
+READING_AND_WRITING = """
+>>> from allsomeno.reading import next_tokens, read_premises, read_sentence
+>>> from allsomeno.writing import premises_text, sentence_text
+>>> names = (("clerk", "scribe"), ("see",))
+>>> read_sentence(names, "all clerk see some scribe"), read_sentence(names, "some clerk not see by all clerk")
+(('verb', 'all', 0, True, 0, False, 'some', 1), ('verb', 'some', 0, False, 0, True, 'all', 0))
+>>> read_premises(names, "no clerk are scribe; some scribe are not clerk; all scribe not see self")
+(('no', 0, 1), ('some not', 1, 0), ('self', 'all', 1, False, 0))
+>>> sentence_text(names, ("as many", 1, 0)), premises_text(names, (("fewer", 0, 1), ("self", "some", 0, True, 0))), read_premises(names, "")
+('as many scribe as clerk', 'fewer clerk than scribe; some clerk see self', ())
+>>> next_tokens(names, "all clerk", "sentence"), next_tokens(names, "some clerk are", "sentence"), next_tokens(names, "", "premises")
+(['a verb', '"not"', '"are"'], ['a noun', '"not"'], ['"all"', '"some"', '"no"', '"as"', '"fewer"', 'the end'])
+"""
+
+DEBATES = """
+>>> from allsomeno.debate import Debate
+>>> from allsomeno.journals import are_right, replayed
+>>> debate = Debate((3, 0))
+>>> debate.act(("assert", 0, ("all", 0, 1))), debate.act(("assert", 1, ("some not", 0, 1))), debate.disputes(), debate.can_hold()
+(1, 2, ((0, 1),), False)
+>>> debate.act(("assert", 2, ("no", 0, 2))), debate.disputes(), debate.act(("withdraw", 1)), debate.disputes(), debate.assertions()
+(3, ((0, 1),), 4, (), ((0, ('all', 0, 1)), (2, ('no', 0, 2))))
+>>> debate.undo(), debate.sentences(1), are_right((3, 0), debate.records()), replayed((3, 0), debate.journal()).disputes()
+(('withdraw', 1), (('some not', 0, 1),), True, ((0, 1),))
+>>> are_right((1, 0), ((("assert", 4, ("some", 0, 0)), (((3, (0,)),), (), ())), (("withdraw", 0), None))), are_right((1, 0), ((("assert", 4, ("some", 0, 0)), ((), (), ())),))
+(True, False)
+"""
+
 
 class Examples(unittest.TestCase):
     def check(self, text, many):
@@ -186,8 +217,17 @@ class Examples(unittest.TestCase):
     def test_telling(self):
         self.check(TELLING, 5)
 
+    def test_reading_and_writing(self):
+        self.check(READING_AND_WRITING, 7)
+        with self.assertRaises(TextError) as caught:
+            read_sentence((("a", "b"), ()), "all a are c")
+        self.assertEqual((caught.exception.column, caught.exception.words), (11, "expected a noun"))
+
+    def test_debates(self):
+        self.check(DEBATES, 7)
+
     def test_readme(self):
-        self.check(README.read_text(), 29)
+        self.check(README.read_text(), 42)
 
 
 if __name__ == "__main__":

@@ -4,6 +4,8 @@ import importlib
 import inspect
 import unittest
 
+from allsomeno.debate import Debate
+
 INTERFACE = {
     "sentences": {
         "is_signature": "value", "is_sentence": "signature value", "are_premises": "signature value",
@@ -64,28 +66,46 @@ INTERFACE = {
     },
     "naming": {"are_names": "value"},
     "scanning": {"scan": "text"},
+    "reading": {
+        "next_tokens": "names text kind", "read_sentence": "names text", "read_premises": "names text",
+    },
+    "writing": {"sentence_text": "names sentence", "premises_text": "names premises"},
+    "journals": {"replayed": "signature journal", "are_right": "signature records"},
+}
+# The methods of the class Debate, each with its arguments and right values for them.
+METHODS = {
+    "act": {"command": ("assert", 1, ("some not", 0, 1))}, "undo": {}, "assertions": {}, "sentences": {"speaker": 0},
+    "journal": {}, "can_hold": {}, "disputes": {}, "records": {}, "twin": {},
 }
 ERRORS = {
     "LogicError": None, "BadValue": "name", "TooLarge": "what", "NotPossible": "why", "TextError": "column words",
 }
 RIGHT_PREMISES = (("all", 0, 1), ("verb", "some", 0, True, 0, False, "all", 1))
 RIGHT_MODEL = (((2, (0, 1)), (1, ())), (((0, 1), (1,)),), ((0,),))
+RIGHT_JOURNAL = (("assert", 0, ("all", 1, 0)), ("withdraw", 0))
 RIGHT = {
     "signature": (2, 1), "sentence": ("no", 1, 0), "first": ("some", 0, 1), "second": ("all", 0, 1), "index": 95,
     "order": (1, 0), "model": RIGHT_MODEL, "noun": 1, "groups": (1,), "premises": RIGHT_PREMISES, "verb": 0,
     "value": ("one", 0),
     "kind": ("one", 1), "lines": (("all", 0, 1), ("one", 0)), "fact": ("clash",), "claim": ("some", 1, 1), "many": 20,
-    "text": "all clerk; some",
+    "text": "all clerk are scribe", "names": (("clerk", "scribe"), ("see",)), "journal": RIGHT_JOURNAL,
+    "records": ((RIGHT_JOURNAL[0], RIGHT_MODEL), (RIGHT_JOURNAL[1], None)),
 }
 # How many functions return lists.
-LISTS = 4
+LISTS = 5
 # In some modules parameters of the same names stand for values of another kind.
 RIGHT_IN = {
     "verdicts": {"index": 0},
     "kinds": {"first": ("one", 0), "second": ("both", 0, 1)},
     "comparing": {"first": RIGHT_PREMISES, "second": (("some", 1, 1), ("no", 0, 0))},
+    "reading": {"kind": "sentence"},
     "telling": {"first": RIGHT_MODEL, "second": ((), ((),), ((),)), "value": ("some", 0, 1)},
 }
+
+
+def told(value):
+    """What a value is, and for a debate what it tells."""
+    return repr((value.journal(), value.assertions(), value.records()) if isinstance(value, Debate) else value)
 
 
 class Interface(unittest.TestCase):
@@ -116,8 +136,8 @@ class Interface(unittest.TestCase):
     def test_the_same_call_returns_equal_results(self):
         for function, arguments in self.calls():
             before = repr(arguments)
-            results = [function(*arguments) for _ in range(2)]
-            self.assertEqual(repr(results[0]), repr(results[1]), function)
+            results = [told(function(*arguments)) for _ in range(2)]
+            self.assertEqual(*results, function)
             self.assertEqual(repr(arguments), before, function)
 
     def test_a_returned_list_is_not_used_again(self):
@@ -131,6 +151,19 @@ class Interface(unittest.TestCase):
                 found.clear()
                 self.assertEqual(repr(function(*arguments)), told, function)
         self.assertEqual(met, LISTS)
+
+    def test_debates(self):
+        self.assertEqual(Debate.__module__, "allsomeno.debate")
+        self.assertEqual(list(inspect.signature(Debate).parameters), ["signature"])
+        for name, arguments in METHODS.items():
+            method = vars(Debate)[name]
+            self.assertEqual(list(inspect.signature(method).parameters), ["self"] + list(arguments))
+            debates = [Debate((2, 1)), Debate((2, 1))]
+            for debate in debates:
+                debate.act(("assert", 0, ("all", 0, 1)))
+            results = [told(getattr(debate, name)(*arguments.values())) for debate in debates]
+            self.assertEqual(*results, name)
+            self.assertEqual(told(debates[0]), told(debates[1]))
 
 
 if __name__ == "__main__":

@@ -1,33 +1,15 @@
 """Points 109 and 110, and what point 117 says of texts: the tokens of a text and their problems."""
 
-import re
 import unittest
 
 from allsomeno.errors import BadValue, TextError
 from allsomeno.scanning import scan
 
 from tests.reference import Stream
+from tests.speech import NOT_HERE, TOO_LONG, scanned
 
-NOT_HERE = "no token begins here"
-TOO_LONG = "a word has at most 8 letters"
 # White space other than spaces, and other characters of which no token is made.
 OTHERS = "\t\r\x0b\x0c\x1c\x85\xa0\u2028\u2003AZ09_-,.:'\"`{\x00\x7f\xe4\xdf\xb5\u0131\u03b1\u0430\uff41\U0001d41a"
-
-
-def scanned(text):
-    """The tokens of a text, or the column and the words of its first problem, by a pattern."""
-    found = []
-    for match in re.finditer(r"[a-z]+|;|[^ ]", text, re.DOTALL):
-        characters, column = match.group(), match.start() + 1
-        if characters == ";":
-            found.append(("sign", ";", column))
-        elif not re.fullmatch("[a-z]+", characters):
-            return (column, NOT_HERE)
-        elif len(characters) > 8:
-            return (column, TOO_LONG)
-        else:
-            found.append(("word", characters, column))
-    return found + [("end", "", len(text) + 1)]
 
 
 class Tokens(unittest.TestCase):

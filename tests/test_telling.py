@@ -305,8 +305,8 @@ class Unions(unittest.TestCase):
                     self.assertIn((sentence[3], sentence[6]), ((True, "all"), (False, "some")))
                 if signature[1] == 0:
                     self.assertIs(agree(signature, model, union(signature, model, model)), True)
-        each = crowd(1)
-        self.assertEqual(told_sentence((1, 1), each, union((1, 1), each, each)), ("verb", "all", 0, True, 0, True, "all", 0))
+        both = union((1, 1), crowd(1), crowd(1))
+        self.assertEqual(told_sentence((1, 1), crowd(1), both), ("verb", "all", 0, True, 0, True, "all", 0))
 
     def test_of_the_interface(self):
         self.assertIs(agree_but_for_sizes((2, 0), OTHER, union((2, 0), OTHER, TWO)), True)
